@@ -4,6 +4,7 @@ What is told is a list: a record, its label, a record, its label, and so on.
 A group is the list of its records, rising.
 A round that was is a dict: of each group, in their order, its number and its records.
 A way to give numbers is a list: of each group, in their order, its number, or NEW.
+What is held is a dict: of each number that is held, the record to which it is.
 """
 
 MOST_RECORDS = 8
@@ -15,6 +16,10 @@ MOST_GROUPS = 6
 NEW = 0
 
 
+def is_a_record(record):
+    return record >= 1 and record <= LAST_RECORD
+
+
 def can_be_told(told):
     if len(told) % 2 == 1:
         return False
@@ -22,7 +27,7 @@ def can_be_told(told):
     labels = told[1::2]
     if len(records) > MOST_RECORDS or len(set(records)) < len(records):
         return False
-    if any([record < 1 or record > LAST_RECORD for record in records]):
+    if not all([is_a_record(record) for record in records]):
         return False
     if any([label > LAST_LABEL for label in labels]):
         return False
@@ -44,10 +49,22 @@ def how_many_in_both(records, others):
     return len([record for record in records if record in others])
 
 
+def those_that_count(held, groups, ahead):
+    counting = {}
+    for number, record in held.items():
+        if number in ahead and any([record in records for records in groups]):
+            counting[number] = record
+    return counting
+
+
 # The lower number is to be preferred and a new one comes last: the order of what is given back tells that.
-def numbers_it_may_have(records, ahead):
+def numbers_it_may_have(records, ahead, counting):
+    held_to_it = [number for number, record in counting.items() if record in records]
+    if len(held_to_it) > 0:
+        return [min(held_to_it)]
     shared = [number for number, others in ahead.items() if how_many_in_both(records, others) > 0]
-    return sorted(shared) + [NEW]
+    # One that counts goes to the group of its record or, if that has a lower one, to none.
+    return sorted([number for number in shared if number not in counting]) + [NEW]
 
 
 # Eight records share with at most eight groups in all, so that there are never more than 144 ways.
@@ -68,8 +85,9 @@ def how_many_keep_theirs(way, groups, ahead):
     return sum([how_many_in_both(records, ahead.get(number, [])) for number, records in zip(way, groups)])
 
 
-def best_way(groups, ahead):
-    ways = ways_to_give([numbers_it_may_have(records, ahead) for records in groups])
+def best_way(groups, ahead, held):
+    counting = those_that_count(held, groups, ahead)
+    ways = ways_to_give([numbers_it_may_have(records, ahead, counting) for records in groups])
     best = ways[0]
     for way in ways:
         # As many are not enough: of several the first stays.

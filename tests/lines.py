@@ -4,19 +4,32 @@ from numberskept.desk import answers
 
 BEGIN = [0]
 SHOW = [2]
+COUNTS = [11]
 
 
-def told_round(*groups):
-    """A round of these groups; the labels are 10, 11, ... in the order in which the groups are given."""
+def told_of(groups):
+    """Records and labels of these groups; the labels are 10, 11, ... in the order in which the groups are given."""
     told = []
     for label, records in enumerate(groups, start=10):
         for record in records:
             told += [record, label]
-    return raw_round(told)
+    return told
+
+
+def told_round(*groups):
+    return raw_round(told_of(groups))
 
 
 def raw_round(told):
     return [1, len(told)] + told
+
+
+def told_would(*groups):
+    return raw_would(told_of(groups))
+
+
+def raw_would(told):
+    return [10, len(told)] + told
 
 
 def of(record):
@@ -29,6 +42,22 @@ def leads(number):
 
 def was(which, record):
     return [5, which, record]
+
+
+def ended(which):
+    return [6, which]
+
+
+def begun(which):
+    return [7, which]
+
+
+def hold(number, record):
+    return [8, number, record]
+
+
+def let(number):
+    return [9, number]
 
 
 def split(given):

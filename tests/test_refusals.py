@@ -1,8 +1,9 @@
-"""When a round is refused, and that all is as it was then."""
+"""When round and would are refused, and that all is as it was then."""
 
 import unittest
 
-from tests.lines import SHOW, ask, leads, of, raw_round, told_round, was
+from tests.lines import COUNTS, SHOW, ask, begun, ended, hold, leads, of, raw_round, raw_would, told_round, told_would
+from tests.lines import was
 
 HIGHEST = 4294967295
 
@@ -11,20 +12,25 @@ def labelled(records, label=1):
     return [number for record in records for number in (record, label)]
 
 
-class RoundRefused(unittest.TestCase):
+class Refused(unittest.TestCase):
     def check_refused(self, told):
-        ahead = [told_round([1, 2], [3]), told_round([1, 2, 3], [4])]
-        look = [SHOW, of(1), of(3), of(4), leads(1), leads(2), leads(3), leads(4), was(1, 3), was(2, 3), was(3, 3)]
-        behind = [told_round([1, 5], [2, 3], [4])]
-        self.assertEqual(ask(raw_round(told)), [[-1]])
-        given = ask(*ahead, *look, raw_round(told), *look, *behind, SHOW)
-        kept = ask(*ahead, *look, *behind, SHOW)
-        self.assertEqual(given[13], [-1])
-        self.assertEqual(given[14:25], given[2:13])
-        self.assertEqual(given[25:], kept[13:])
+        for refused in (raw_round(told), raw_would(told)):
+            self.assertEqual(ask(refused), [[-1]])
+            self.check_all_is_as_it_was(refused)
+
+    def check_all_is_as_it_was(self, refused):
+        ahead = [told_round([1, 2], [3]), told_round([1, 2, 3], [4]), hold(1, 4), hold(2, 9)]
+        look = [SHOW, of(1), of(3), of(4), leads(1), leads(2), leads(3), leads(4), was(1, 3), was(2, 3), was(3, 3),
+                ended(2), begun(2), ended(3), begun(3), told_would([1, 2, 3], [4], [5]), COUNTS]
+        behind = [told_round([1, 5], [2, 3], [4]), SHOW, COUNTS]
+        given = ask(*ahead, *look, refused, *look, *behind)
+        kept = ask(*ahead, *look, *behind)
+        self.assertEqual(given[21], [-1])
+        self.assertEqual(given[22:39], given[4:21])
+        self.assertEqual(given[39:], kept[21:])
 
     def check_taken(self, told, groups):
-        self.assertEqual(ask(raw_round(told)), [[1] + groups])
+        self.assertEqual(ask(raw_would(told), raw_round(told)), [[0, groups[0]] + [0] * groups[0], [1] + groups])
 
     def test_a_record_without_a_label(self):
         self.check_refused([1])
@@ -82,14 +88,14 @@ class ThirtyRounds(unittest.TestCase):
 
     def test_of_both_the_one_told_first(self):
         wrong = [[1], labelled(range(1, 10)), [0, 1], [31, 1], [2, 1, 2, 1], [1, 101], [1, 0, 2, 1, 3, 2, 4, 3, 5, 4, 6, 5, 7, 6]]
-        given = ask(*[told_round()] * 30, *[raw_round(told) for told in wrong])
-        self.assertEqual(given[30:], [[-1]] * len(wrong))
+        given = ask(*[told_round()] * 30, *[raw_round(told) for told in wrong], *[raw_would(told) for told in wrong])
+        self.assertEqual(given[30:], [[-1]] * len(wrong) * 2)
 
     def test_all_is_as_it_was(self):
-        look = [SHOW, of(1), of(2), leads(1), leads(2), leads(3), was(30, 1), was(31, 1)]
-        given = ask(*[told_round([1], [3])] * 30, *look, told_round([1, 2]), *look)
-        self.assertEqual(given[38], [-6])
-        self.assertEqual(given[39:], given[30:38])
+        look = [SHOW, of(1), of(2), leads(1), leads(2), leads(3), was(30, 1), was(31, 1), ended(30), begun(31), COUNTS]
+        given = ask(*[told_round([1], [3])] * 30, hold(2, 1), *look, told_round([1, 2]), *look)
+        self.assertEqual(given[42], [-6])
+        self.assertEqual(given[43:], given[31:42])
 
 
 if __name__ == "__main__":
